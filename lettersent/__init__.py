@@ -1,0 +1,1 @@
+"""One letter is sent to somebody who has seen something that goes with the thing."""
