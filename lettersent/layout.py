@@ -12,6 +12,16 @@ CLASH = 8
 FEWEST = 9
 BEST = 10
 WAYS = 11
+CROWD = 12
+WHY = 13
+APART = 14
+TOLD = 15
+SURE = 16
+GOOD_TWO = 17
+GREEDY_TWO = 18
+MIXED_TWO = 19
+OFTEN = 20
+LIKELIEST = 21
 
 # Of each call, at its number: how many whole numbers it has, and whether a row stands behind them.
 SHAPES = (

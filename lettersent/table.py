@@ -37,3 +37,15 @@ class Table:
 
     def mixed_with(self, x):
         return [z for z in range(self.x_count) if self.are_mixed(x, z)]
+
+    def xs_with(self, y):
+        return [x for x in range(self.x_count) if self.comes(x, y)]
+
+    def ever_comes(self, x):
+        return sum(self.often[x]) > 0
+
+    def row_by_row(self):
+        found = []
+        for row in self.often:
+            found.extend(row)
+        return found

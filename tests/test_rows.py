@@ -3,29 +3,9 @@
 import itertools
 import unittest
 
-from helper import (ALL_WITH_ALL, LARGEST, NOTHING, PATH, RING, THEY_DO, WRONG, best, clash, fewest, good, mixed_with,
-                    numbers_of, run_on, take_out, ways)
-
-WRONG_FOR_FOUR = ([], [0], [0, 1, 2], [0, 1, 2, 3, 0], [4, 0, 0, 0], [0, 0, 0, 4], [0, LARGEST, 0, 0], [5] * 5)
-
-
-def never_mistaken(rows, letters):
-    """Whoever knows y and the letter knows x, whatever comes: told without the word mixed."""
-    for y in range(len(rows[0])):
-        heard = [letters[x] for x in range(len(rows)) if rows[x][y]]
-        if len(heard) != len(set(heard)):
-            return False
-    return True
-
-
-def numbered_as_they_come(letters):
-    order = list(dict.fromkeys(letters))
-    return order == list(range(len(order)))
-
-
-def all_rows(x_count):
-    """Every row of letters, in order."""
-    return [list(letters) for letters in itertools.product(range(x_count), repeat=x_count)]
+from helper import (ALL_WITH_ALL, FIVE, LARGEST, NOTHING, PATH, RING, THEY_DO, WRONG, WRONG_FOR_FOUR, all_rows, best,
+                    clash, fewest, good, mixed_with, never_mistaken, numbered_as_they_come, numbers_of, run_on,
+                    small_tables, take_out, ways)
 
 
 def rows_that_do(rows):
@@ -34,24 +14,6 @@ def rows_that_do(rows):
 
 def numbered_rows_that_do(rows):
     return [letters for letters in rows_that_do(rows) if numbered_as_they_come(letters)]
-
-
-def small_tables():
-    """Every table of these sizes in which each two come together once or never."""
-    for x_count, y_count in ((1, 1), (1, 3), (2, 2), (3, 1), (3, 2), (3, 3), (4, 2)):
-        for marks in itertools.product((0, 1), repeat=x_count * y_count):
-            yield [list(marks[x * y_count:(x + 1) * y_count]) for x in range(x_count)]
-
-
-FIVE = [
-    RING,
-    ALL_WITH_ALL,
-    [[0] * 5 for x in range(5)],
-    [[1, 0], [1, 1], [0, 1], [0, 0], [1, 0]],
-    [[0, 9, 0], [1, 0, 0], [0, 1, 1], [2, 0, 0], [0, 0, 3]],
-    [[1, 1, 1, 1], [1, 0, 0, 0], [0, 1, 0, 0], [0, 0, 1, 0], [0, 0, 0, 1]],
-    [[1, 0, 0, 1, 0], [0, 1, 0, 1, 0], [1, 0, 0, 0, 1], [0, 1, 0, 0, 1], [0, 0, 1, 0, 0]],
-]
 
 
 class GoodTest(unittest.TestCase):

@@ -1,9 +1,10 @@
-"""Point 1: begin, set, row, forget."""
+"""Point 1: begin, set, row, forget, all."""
 
 import unittest
 
-from helper import (LARGEST, NO_SUCH, ONE_ALONE, PATH, WRONG, begin, best, fewest, forget, look_at_all, may, mixed,
-                    mixed_with, numbers_of, row, run, run_on, seen, set_often, table_calls, take_out)
+from helper import (ALL_WITH_ALL, LARGEST, NOTHING, NO_SUCH, ONE_ALONE, PATH, RING, WRONG, all_told, begin, best,
+                    fewest, forget, look_at_all, many_tables, may, mixed, mixed_with, numbers_of, row, run, run_looks,
+                    run_on, seen, set_often, table_calls, take_out, whole)
 
 
 class StaysTest(unittest.TestCase):
@@ -12,6 +13,7 @@ class StaysTest(unittest.TestCase):
         looks = look_at_all(len(rows), len(rows[0]))
         found = run_on(rows, call, *looks, *take_out(rows))
         self.assertEqual(found, [[refusal]] + seen(rows) + numbers_of(rows), call)
+        self.assertEqual(run_looks(rows, call), [[refusal]], call)
 
 
 class BeginTest(StaysTest):
@@ -145,6 +147,40 @@ class ForgetTest(StaysTest):
     def test_less_that_comes_no_more_letters(self):
         found = run_on(PATH, fewest(), forget(1), fewest(), best(), forget(0), fewest())
         self.assertEqual(found, [[2], [2], [2], [2, 0, 1, 0, 0], [1], [1]])
+
+
+class AllToldTest(unittest.TestCase):
+    def test_path(self):
+        self.assertEqual(run_on(PATH, all_told()), [[4, 3, 2, 0, 1, 3, 4, 0, 0, 5, 0, 0, 0, 0]])
+
+    def test_how_many_x_stands_ahead_of_how_many_y(self):
+        self.assertEqual(run_on([[1, 2, 3]], all_told()), [[1, 3, 1, 2, 3]])
+        self.assertEqual(run_on([[1], [2], [3]], all_told()), [[3, 1, 1, 2, 3]])
+
+    def test_nothing_comes(self):
+        for x in range(1, 6):
+            for y in range(1, 6):
+                self.assertEqual(run(begin(x, y), all_told()), [[0], [x, y] + [0] * (x * y)])
+
+    def test_all_comes_with_all(self):
+        self.assertEqual(run_on(ALL_WITH_ALL, all_told()), [[5, 5] + [1] * 25])
+
+    def test_one_x_and_one_y(self):
+        self.assertEqual(run_on([[9]], all_told()), [[1, 1, 9]])
+
+    def test_looking_changes_nothing(self):
+        for rows in (PATH, RING, NOTHING):
+            self.assertEqual(run_on(rows, all_told(), all_told()), [whole(rows), whole(rows)])
+
+    def test_behind_changes(self):
+        found = run(begin(2, 3), set_often(1, 0, 4), row(0, [1, 2, 3]), all_told(), forget(1), all_told(), begin(1, 1),
+                    all_told(), begin(0, 1), all_told())
+        self.assertEqual(found, [[0], [0], [0], [2, 3, 1, 2, 3, 4, 0, 0], [2], [2, 2, 1, 3, 4, 0], [0], [1, 1, 0],
+                                 [WRONG], [1, 1, 0]])
+
+    def test_many_tables(self):
+        for rows in many_tables(100):
+            self.assertEqual(run_on(rows, all_told()), [whole(rows)])
 
 
 if __name__ == "__main__":
